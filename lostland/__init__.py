@@ -1,0 +1,1 @@
+"""Lostland: sheets of a land that nobody has seen whole."""

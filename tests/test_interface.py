@@ -1,0 +1,74 @@
+"""The names, arguments and defaults of the interface, and where each one is defined."""
+
+from importlib import import_module
+import inspect
+import unittest
+
+MODULES = {
+    "exact": {
+        "is_fraction": "(value)", "is_spot": "(value)", "fraction": "(over, under=1)",
+        "plus": "(one, other)", "minus": "(one, other)", "times": "(one, other)",
+        "divided": "(one, other)", "negative": "(one)", "sign": "(one)",
+        "is_less": "(one, other)", "fraction_text": "(one)", "read_fraction": "(text)",
+        "direction": "(vector)", "vector_plus": "(one, other)", "vector_minus": "(one, other)",
+        "vector_times": "(vector, weight)",
+    },
+    "tables": {
+        "Table": {
+            "__init__": "(self, a, b, c, d)", "det": property, "__call__": "(self, vector)",
+            "__add__": None, "__sub__": None, "__neg__": None, "__mul__": None,
+            "scaled": "(self, weight)", "inverse": "(self)", "entries": "(self)",
+            "identity": staticmethod, "zero": staticmethod, "__eq__": None, "__repr__": None,
+        },
+    },
+    "motions": {
+        "Motion": {
+            "__init__": "(self, table, move=((0, 1), (0, 1)))", "__call__": "(self, spot)",
+            "__mul__": None, "inverse": "(self)", "identity": staticmethod, "__eq__": None,
+        },
+        "motion_of": "(spots, images)",
+    },
+    "flats": {
+        "Flat": {
+            "__init__": "(self, *spots)", "size": property, "whole": staticmethod,
+            "spots": "(self)", "equation": "(self)", "moved": "(self, motion)",
+            "__contains__": None, "__and__": None, "__or__": None, "__eq__": None,
+            "__repr__": None,
+        },
+    },
+}
+
+
+class TestInterface(unittest.TestCase):
+    def test_functions_and_classes_are_defined_in_their_files(self):
+        for name, members in MODULES.items():
+            module = import_module(f"lostland.{name}")
+            for member in members:
+                self.assertEqual(getattr(module, member).__module__, module.__name__)
+
+    def test_arguments_of_functions(self):
+        for name, members in MODULES.items():
+            module = import_module(f"lostland.{name}")
+            for member, expected in members.items():
+                if isinstance(expected, str):
+                    self.assertEqual(str(inspect.signature(getattr(module, member))), expected)
+
+    def test_methods_stand_in_the_classes_themselves(self):
+        for name, members in MODULES.items():
+            module = import_module(f"lostland.{name}")
+            for member, expected in members.items():
+                if not isinstance(expected, dict):
+                    continue
+                body = vars(getattr(module, member))
+                for method, form in expected.items():
+                    self.assertIn(method, body)
+                    if isinstance(form, str):
+                        self.assertEqual(str(inspect.signature(body[method])), form)
+                    elif form is not None:
+                        self.assertIsInstance(body[method], form)
+                    if form is staticmethod:
+                        self.assertEqual(str(inspect.signature(body[method].__func__)), "()")
+
+
+if __name__ == "__main__":
+    unittest.main()
