@@ -7,6 +7,8 @@ import unittest
 from lostland import errors
 from lostland.flats import Flat
 from lostland.motions import Motion
+from lostland.rooms import Room
+from lostland.sheets import Sheet
 from lostland.tables import Table
 
 ZERO = (0, 1)
@@ -52,8 +54,10 @@ NOT_FRACTIONS = [
     (True, 1), (False, 1), (1, True), (0, True), (True, True), (None, 1), (1, None),
     ("1", "2"), ("1", 1), (1, "1"), ((0, 1), (0, 1)), ((0, 1), 1), (1, (1, 1)), [(0, 1)],
     ((0, 1),), nested(12), nested(12, (0, 1)), nested(12, 0, list),
-    table(1, 0, 0, 1), Table, (table(1, 0, 0, 1), 1), motion(1, 0, 0, 1), Flat(), Flat.whole(),
-    errors.Singular(), errors.InvalidSpot((0, 1)),
+    table(1, 0, 0, 1), (table(1, 0, 0, 1), 1), motion(1, 0, 0, 1), Flat(), Flat.whole(),
+    errors.Singular(), errors.InvalidSpot((0, 1)), Sheet("s", "turned"), Room(),
+    Room(Sheet("s", "even"), marks=["a"]), (Sheet("a", "sized"), Room()), [Room()],
+    "mark", "spot", ("mark",), ("mark", "a"), ["mark", "a"], ("a", ((0, 1), (0, 1))),
 ]
 FRACTIONS = [
     (0, 1), (1, 1), (-1, 1), (1, 2), (-1, 2), (3, 4), (-7, 3), (BIG, 1), (-BIG, BIG + 1),
@@ -72,6 +76,18 @@ SPOTS = [
     ((BIG, 1), (-BIG, BIG - 2)), ((BIG ** 30, 1), (1, BIG ** 30)),
 ]
 ANY_VALUES = NOT_FRACTIONS + FRACTIONS + NOT_SPOTS + SPOTS
+
+NAMES = ["a", "z", "end", "mark", "sheet", "spot", "abcdef", "zzzzzz"]
+NOT_NAMES = NOT_FRACTIONS[:15] + [
+    "A", "aB", "abcdefg", "a1", "1", "a ", " a", "a b", "a\n", "\n", " ", "a:b", "a_b", "-a",
+    "\u00e9", "a\u00df", "\u0561", ("a",), ["a"], nested(12, "a"), nested(3, "a", list), Flat(),
+    Sheet("a", "turned"), Room(Sheet("a", "turned"), marks=["a"]), errors.InvalidName("a"),
+]
+KINDS = ["slanted", "turned", "mirrored", "stretched", "sized", "even"]
+NOT_KINDS = NOT_NAMES + NAMES + [
+    "Even", "EVEN", "even ", " even", "eve", "evenn", "free", "slanted,turned", ("even",),
+    ["even"], tuple(KINDS), KINDS, Sheet("even", "even"),
+]
 
 
 def some_fraction(rng, most=4):

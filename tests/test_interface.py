@@ -36,6 +36,34 @@ MODULES = {
             "__repr__": None,
         },
     },
+    "kinds": {
+        "is_kind": "(value)", "is_free_kind": "(kind)", "own_count": "(kind)",
+        "table_of": "(kind, numbers)", "fits": "(kind, table)", "own_numbers": "(kind, table)",
+        "stays": "(kind, table, other)", "is_narrower": "(kind, other)",
+    },
+    "sheets": {
+        "Sheet": {
+            "__init__": "(self, name, kind, readings=())", "readings": "(self)",
+            "marks": "(self)", "spot": "(self, mark)", "with_reading": "(self, mark, spot)",
+            "without": "(self, mark)", "named": "(self, name)", "of_kind": "(self, kind)",
+            "__contains__": None, "__eq__": None, "__len__": None, "__repr__": None,
+        },
+    },
+    "rooms": {
+        "Room": {
+            "__init__": "(self, *sheets, marks=())", "sheets": "(self)", "names": "(self)",
+            "sheet": "(self, name)", "marks": "(self)", "loose": "(self)",
+            "readers": "(self, mark)", "readings": "(self)", "is_free": property,
+            "with_sheet": "(self, sheet)", "without_sheet": "(self, name)",
+            "with_reading": "(self, name, mark, spot)", "without": "(self, name, mark)",
+            "with_mark": "(self, mark)", "without_mark": "(self, mark)", "__contains__": None,
+            "__iter__": None, "__eq__": None, "__len__": None, "__repr__": None,
+        },
+    },
+    "texts": {"room_text": "(room)", "read_room": "(text)"},
+    "points": {
+        "is_point": "(room, value)", "point_text": "(point)", "read_point": "(room, text)",
+    },
 }
 
 
