@@ -34,6 +34,14 @@ def is_spot(value):
     return is_pair(value) and is_fraction(value[0]) and is_fraction(value[1])
 
 
+def is_direction(value):
+    """Whether any value is a direction."""
+    if not is_pair(value) or not is_number(value[0]) or not is_number(value[1]):
+        return False
+    across, along = value
+    return gcd(across, along) == 1 and (across > 0 or (across == 0 and along > 0))
+
+
 def fraction(over, under=1):
     """The fraction over / under."""
     if under == 0:

@@ -1,18 +1,18 @@
 """The six kinds of sheets, and the tables that each of them allows."""
 
-from lostland.exact import ONE, ZERO, negative
+from lostland.exact import ONE, ZERO, times
 from lostland.tables import Table
 
 KINDS = ("slanted", "turned", "mirrored", "stretched", "sized", "even")
 
-# Where the own numbers of a kind stand among the entries of its tables.
-_OWN_PLACES = {
-    "slanted": (0, 1, 2, 3),
-    "turned": (0, 2),
-    "mirrored": (0, 2),
-    "stretched": (0, 3),
-    "sized": (0,),
-    "even": (0,),
+# For the entries a, b, c and d of the tables of a kind: which own number, times which weight.
+_ENTRIES = {
+    "slanted": ((0, 1), (1, 1), (2, 1), (3, 1)),
+    "turned": ((0, 1), (1, -1), (1, 1), (0, 1)),
+    "mirrored": ((0, 1), (1, 1), (1, 1), (0, -1)),
+    "stretched": ((0, 1), (0, 0), (0, 0), (1, 1)),
+    "sized": ((0, 1), (0, 0), (0, 0), (0, 1)),
+    "even": ((0, 1), (0, 0), (0, 0), (0, 1)),
 }
 
 
@@ -28,28 +28,30 @@ def is_free_kind(kind):
 
 def own_count(kind):
     """The number of own numbers of a kind."""
-    return len(_OWN_PLACES[kind])
+    return max([own for own, _ in _ENTRIES[kind]]) + 1
+
+
+def entry_part(kind, row, column):
+    """The pair (own, weight) of an entry, which is the own number with this index times it."""
+    own, weight = _ENTRIES[kind][2 * row + column]
+    return (own, (weight, 1))
 
 
 def table_of(kind, numbers):
     """The table of a kind with these own numbers."""
-    if kind == "slanted":
-        a, b, c, d = numbers
-        return Table(a, b, c, d)
-    if own_count(kind) == 1:
-        return Table(numbers[0], ZERO, ZERO, numbers[0])
-    a, c = numbers
-    if kind == "turned":
-        return Table(a, negative(c), c, a)
-    if kind == "mirrored":
-        return Table(a, c, c, negative(a))
-    return Table(a, ZERO, ZERO, c)
+    a, b, c, d = [times(numbers[own], (weight, 1)) for own, weight in _ENTRIES[kind]]
+    return Table(a, b, c, d)
 
 
 def own_numbers(kind, table):
     """The list of the own numbers of a table; None if it does not fit the kind."""
     entries = table.entries()
-    numbers = [entries[at] for at in _OWN_PLACES[kind]]
+    owns = [own for own, _ in _ENTRIES[kind]]
+    numbers = []
+    for own in range(own_count(kind)):
+        at = owns.index(own)
+        # A weight of 1 or -1 is undone by itself.
+        numbers.append(times(entries[at], (_ENTRIES[kind][at][1], 1)))
     return numbers if table_of(kind, numbers) == table else None
 
 

@@ -6,9 +6,12 @@ import unittest
 
 from lostland import errors
 from lostland.flats import Flat
+from lostland.lands import land_of
+from lostland.ledgers import Ledger
 from lostland.motions import Motion
 from lostland.rooms import Room
 from lostland.sheets import Sheet
+from lostland.spaces import Space
 from lostland.tables import Table
 
 ZERO = (0, 1)
@@ -58,6 +61,8 @@ NOT_FRACTIONS = [
     errors.Singular(), errors.InvalidSpot((0, 1)), Sheet("s", "turned"), Room(),
     Room(Sheet("s", "even"), marks=["a"]), (Sheet("a", "sized"), Room()), [Room()],
     "mark", "spot", ("mark",), ("mark", "a"), ["mark", "a"], ("a", ((0, 1), (0, 1))),
+    land_of(Room(), tables={}, moves={}, places={}), Space(Room()), Ledger(Room(marks=["a"])),
+    (Space(Room(marks=["a"])), [Ledger(Room())]),
 ]
 FRACTIONS = [
     (0, 1), (1, 1), (-1, 1), (1, 2), (-1, 2), (3, 4), (-7, 3), (BIG, 1), (-BIG, BIG + 1),
@@ -116,7 +121,7 @@ class Case(unittest.TestCase):
     def setUp(self):
         self.rng = Random(20)
 
-    def fails(self, error, told, call, *given, **named):
+    def fails(self, error, told, call, /, *given, **named):
         """Checks that the call raises this very error class, with exactly the told values."""
         try:
             result = call(*given, **named)

@@ -4,9 +4,16 @@ from pathlib import Path
 import re
 import unittest
 
+from lostland.claims import read_saying
 from lostland.errors import InvalidReading
 from lostland.exact import ONE, ZERO, fraction, fraction_text, plus, read_fraction
+from lostland.judging import bond, judge
+from lostland.presses import crushed_paper
 from lostland.sheets import Sheet
+from lostland.spaces import Space
+from lostland.texts import read_room
+from lostland.where import where
+from lostland.whole import pressed, stands
 from tests.support import Case
 
 
@@ -19,12 +26,38 @@ class TestExamples(Case):
         self.fails(InvalidReading, {"at": 1},
                    Sheet, "s", "turned", [("a", (ZERO, ONE)), ("a", (ZERO, ZERO))])
 
+    def test_a_mark_that_two_turned_sheets_lead_over(self):
+        room = read_room("sheet s turned\na 0 0\nb 1 0\nc 0 1\nend\n"
+                         "sheet t turned\na 0 0\nb 0 2\nend\n")
+        space = Space(room)
+        self.same([space.rank, space.freedoms, where(space, ("mark", "c"), on="t")],
+                  [10, 4, ((-2, 1), (0, 1))])
+
+    def test_two_slanted_sheets_that_are_pressed(self):
+        room = read_room("sheet s slanted\na 0 0\nb 1 0\nc 0 1\nd 1 1\nend\n"
+                         "sheet t slanted\na 0 0\nb 1 0\nc 0 1\nd 1 2\nend\n")
+        space = Space(room)
+        self.same([stands(space), pressed(space), list(crushed_paper(space))[:4]],
+                  [False, ["s", "t"], ["crushed", "s", "spot", (0, 1)]])
+
+    def test_words_and_a_bond(self):
+        room = read_room("sheet s slanted\na 0 0\nm 1 0\nb 2 0\nd 0 1\nend\n"
+                         "sheet t slanted\na 0 0\nb 1 0\nc 0 1\nend\n")
+        space = Space(room)
+        texts = ["middle m a b", "same a b", "same c d", "line a b c", "not same a b; line m a b"]
+        words = [judge(space, read_saying(room, text)) for text in texts]
+        self.same([words, bond(space, read_saying(room, "line m a b")[0]),
+                   where(space, ("mark", "m"), on="t")],
+                  [["surely", "never", "open", "unsure", "surely"], ("ratio", (1, 1)),
+                   ((1, 2), (0, 1))])
+
     def test_readme(self):
         text = (Path(__file__).resolve().parent.parent / "README.md").read_text()
         blocks = re.findall(r"```python\n(.*?)```", text, re.DOTALL)
         self.assertTrue(blocks)
+        # Later blocks go on with what the earlier ones import and name.
+        names = {}
         for block in blocks:
-            names = {}
             for line in block.splitlines():
                 code, _, told = line.partition("  #")
                 if told:

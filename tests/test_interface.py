@@ -64,6 +64,63 @@ MODULES = {
     "points": {
         "is_point": "(room, value)", "point_text": "(point)", "read_point": "(room, text)",
     },
+    "claims": {
+        "check_claim": "(room, claim, at=0)", "check_saying": "(room, saying)",
+        "is_plain": "(claim)", "claim_text": "(claim)", "saying_text": "(saying)",
+        "read_claim": "(room, text, at=0)", "read_saying": "(room, text)",
+    },
+    "forms": {
+        "unknowns": "(room)", "entry_form": "(room, name, row, column)",
+        "place_form": "(room, point, axis)", "form_plus": "(one, other)",
+        "form_times": "(form, weight)", "gap_form": "(room, claim, axis)",
+        "press_form": "(room, name, side, direction, axis)",
+        "bond_form": "(room, claim, word, direction, axis)",
+    },
+    "lands": {
+        "Land": {
+            "place": "(self, point)", "motion": "(self, name)", "value_of": "(self, unknown)",
+            "at_form": "(self, form)", "spot": "(self, point, name)", "crushed": "(self)",
+            "is_whole": property, "holds": "(self, claim)", "__add__": None, "__sub__": None,
+            "__neg__": None, "scaled": "(self, weight)", "moved": "(self, motion)",
+            "framed": "(self, name)", "__eq__": None, "__repr__": None,
+        },
+        "land_of": "(room, *, tables, moves, places)",
+    },
+    "sums": {
+        "row_keys": "(room, told=())", "row_form": "(room, key, told=())",
+        "is_sum": "(room, value, told=())", "sum_form": "(room, value, told=())",
+        "sum_plus": "(one, other)", "sum_times": "(one, weight)",
+    },
+    "spaces": {
+        "Space": {
+            "__init__": "(self, room, *, told=())", "told": "(self)", "rank": property,
+            "freedoms": property, "base": "(self)", "has": "(self, value)",
+            "follows": "(self, form)", "sum_for": "(self, form)",
+            "with_told": "(self, *claims)", "with_reading": "(self, name, mark, spot)",
+            "without": "(self, name, mark)", "is_within": "(self, other)", "__eq__": None,
+            "__repr__": None,
+        },
+    },
+    "ledgers": {
+        "Ledger": {
+            "__init__": "(self, room, *, told=())", "put": "(self, key)", "kept": "(self)",
+            "followed": "(self)", "sum_of": "(self, key)", "take_back": "(self)",
+            "rank": property, "twin": "(self)", "__contains__": None, "__len__": None,
+            "__repr__": None,
+        },
+    },
+    "whole": {
+        "press": "(space, name)", "pressed": "(space)", "stands": "(space)",
+        "mixed": "(one, other)", "whole_land": "(space)",
+    },
+    "presses": {"crushed_paper": "(space)", "is_crushed_paper": "(space, value)"},
+    "where": {
+        "where": "(space, point, *, on)", "known_on": "(space, point)", "index_of": "(space)",
+        "where_paper": "(space, point, *, on)", "is_where_paper": "(space, point, value, *, on)",
+    },
+    "judging": {
+        "judge": "(space, saying)", "surely": "(space, claim)", "bond": "(space, claim)",
+    },
 }
 
 

@@ -187,6 +187,26 @@ class TestLanguage(unittest.TestCase):
             if node.name in ("__len__", "__iter__"):
                 self.assertIn(returns[0].value.func.id, ("len", "iter"), place)
 
+    def test_kept_answers(self):
+        kept = []
+        for place, node in nodes(ast.FunctionDef):
+            rows = [row for row in node.body if not isinstance(row, ast.Expr)]
+            if not node.decorator_list or not isinstance(rows[0], ast.If):
+                continue
+            # if self._name is None: self._name = .., return self._name, and nothing else.
+            self.assertEqual(len(rows), 2, place)
+            self.assertEqual([len(rows[0].body), len(rows[0].orelse)], [1, 0], place)
+            name = rows[0].test.left.attr
+            self.assertEqual(ast.unparse(rows[0].test), f"self.{name} is None", place)
+            self.assertEqual(ast.unparse(rows[0].body[0].targets[0]), f"self.{name}", place)
+            self.assertEqual(ast.unparse(rows[1]), f"return self.{name}", place)
+            kept.append(name)
+        self.assertEqual(len(kept), len(set(kept)))
+        for name in kept:
+            found = [node for _, node in nodes(ast.Attribute) if node.attr == name]
+            # Once in __init__, and three times in the property.
+            self.assertEqual(len(found), 4, name)
+
     def test_no_name_is_a_method_and_an_attribute(self):
         for place, node in nodes(ast.ClassDef):
             methods = [part.name for part in node.body if isinstance(part, ast.FunctionDef)]
