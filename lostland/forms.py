@@ -3,7 +3,7 @@
 from lostland.claims import gap_parts, steps_of
 from lostland.exact import ONE
 from lostland.kinds import entry_part, own_count
-from lostland.weights import is_key, mixture, put_together
+from lostland.weights import is_key, is_mixture, mixture, put_together
 
 AXES = (0, 1)
 _LESS = (-1, 1)
@@ -25,6 +25,11 @@ def unknowns(room):
 def is_unknown(room, value):
     """Whether any value is an unknown of the room."""
     return is_key(value) and value in unknowns(room)
+
+
+def is_form(room, value):
+    """Whether any value is a form over the unknowns of the room."""
+    return is_mixture(value, unknowns(room))
 
 
 def own_unknowns(sheet):

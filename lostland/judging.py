@@ -11,24 +11,24 @@ def judge(space, saying):
     """The word of a saying."""
     check_saying(space.room, saying)
     check_stands(space)
-    if all([_is_sure(space, claim) for claim in saying]):
+    if all([is_sure(space, claim) for claim in saying]):
         return "surely"
     if not can_hold(space, saying):
         return "never"
-    return "unsure" if any([_has_steps(claim) for claim in saying]) else "open"
+    return "unsure" if any([has_steps(claim) for claim in saying]) else "open"
 
 
 def surely(space, claim):
     """Whether a claim surely holds."""
     check_claim(space.room, claim)
     check_stands(space)
-    return _is_sure(space, claim)
+    return is_sure(space, claim)
 
 
 def bond(space, claim):
     """The bond of a claim line or side; None if the claim does not surely hold."""
     check_claim(space.room, claim)
-    if not _has_steps(claim):
+    if not has_steps(claim):
         raise InvalidClaim(0, "form")
     check_stands(space)
     return bond_of(space, claim)
@@ -62,7 +62,7 @@ def can_hold(space, saying):
     return not any([gap_follows(more, claim) for claim in denied])
 
 
-def _is_sure(space, claim):
+def is_sure(space, claim):
     """Whether a claim of a space that stands surely holds."""
     if is_plain(claim):
         return gap_follows(space, claim)
@@ -71,6 +71,6 @@ def _is_sure(space, claim):
     return bond_of(space, claim) is not None
 
 
-def _has_steps(claim):
+def has_steps(claim):
     """Whether the word of a claim is line or side."""
     return claim[0] in ("line", "side")

@@ -21,6 +21,21 @@ def common_press(tables):
     return None
 
 
+def regular_of(lands, tables):
+    """One of the lands, or the sum of two, whose table is not singular, from a table for each land.
+
+    None if there is none; then all sums of multiples of the tables are singular.
+    """
+    for land, table in zip(lands, tables):
+        if table.det != ZERO:
+            return land
+    for at, one in enumerate(tables):
+        for below in range(at):
+            if (tables[below] + one).det != ZERO:
+                return lands[below] + lands[at]
+    return None
+
+
 def _are_side_by_side(vectors):
     """Whether all vectors are multiples of one."""
     some = [vector for vector in vectors if vector != _NOTHING]

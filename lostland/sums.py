@@ -1,9 +1,9 @@
 """The rows of a space, their keys, and sums of rows."""
 
 from lostland.errors import InvalidSum, UnknownRow
-from lostland.exact import ONE, ZERO, is_fraction, is_pair
+from lostland.exact import ONE
 from lostland.forms import AXES, form_minus, gap_form, place_form
-from lostland.weights import is_key, mixture
+from lostland.weights import is_key, is_mixture, mixture
 
 
 def row_keys(room, told=()):
@@ -35,11 +35,7 @@ def form_of_row(room, key, told):
 
 def is_sum(room, value, told=()):
     """Whether any value is a sum."""
-    if not isinstance(value, tuple) or not all([_is_weighted_key(pair) for pair in value]):
-        return False
-    keys = row_keys(room, told)
-    found = [key for key, _ in value]
-    return all([key in keys for key in found]) and _is_ascending(found)
+    return is_mixture(value, row_keys(room, told))
 
 
 def sum_form(room, value, told=()):
@@ -62,13 +58,3 @@ def sum_plus(one, other):
 def sum_times(one, weight):
     """The sum whose form is the multiple of the form of a sum by a fraction."""
     return mixture([(weight, one)])
-
-
-def _is_weighted_key(value):
-    """Whether any value is a pair of what may be a key and a fraction that is not 0."""
-    return is_pair(value) and is_key(value[0]) and is_fraction(value[1]) and value[1] != ZERO
-
-
-def _is_ascending(keys):
-    """Whether the keys ascend, without duplicates."""
-    return all([one < other for one, other in zip(keys, keys[1:])])

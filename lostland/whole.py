@@ -1,9 +1,8 @@
 """Whole lands, and the sheets that all lands press flat."""
 
 from lostland.errors import NoLand, UnknownSheet
-from lostland.exact import ZERO
 from lostland.lands import zero_land
-from lostland.pressing import common_press
+from lostland.pressing import common_press, regular_of
 
 
 def press(space, name):
@@ -48,23 +47,6 @@ def whole_land(space):
     land = zero_land(space.room)
     for name in space.room.names():
         if name in land.crushed():
-            land = mixed(land, _land_good_for(base, name))[1]
+            tables = [one.motion(name).table for one in base]
+            land = mixed(land, regular_of(base, tables))[1]
     return land
-
-
-def _land_good_for(base, name):
-    """A land that does not crush a sheet that is not pressed."""
-    land = _first_good(base, name)
-    if land is None:
-        # Where each land of the base crushes the sheet, two of them together do not.
-        pairs = [one + other for at, one in enumerate(base) for other in base[at + 1:]]
-        land = _first_good(pairs, name)
-    return land
-
-
-def _first_good(lands, name):
-    """The first of the lands that does not crush a sheet; None if there is none."""
-    for land in lands:
-        if land.motion(name).table.det != ZERO:
-            return land
-    return None

@@ -101,23 +101,42 @@ def rows(room, told=()):
     return found
 
 
-def steps_down(vectors):
-    """A list of pairs (pivot, vector), each pivot 1 there and absent from all other vectors."""
+def less_multiple(vector, factor, row):
+    """The vector minus a multiple of a row."""
+    found = dict(vector)
+    for key, weight in row.items():
+        rest = found.pop(key, 0) - factor * weight
+        if rest:
+            found[key] = rest
+    return found
+
+
+def forward(vectors):
+    """A list of pairs (pivot, vector), each pivot 1 there and absent from all later vectors."""
     found = []
     for vector in vectors:
         for pivot, row in found:
             if pivot in vector:
-                vector = added((1, vector), (-vector[pivot], row))
+                vector = less_multiple(vector, vector[pivot], row)
         if vector:
             pivot = max(vector)
-            vector = added((1 / vector[pivot], vector))
-            found = [(old, added((1, row), (-row.get(pivot, 0), vector))) for old, row in found]
-            found.append((pivot, vector))
+            found.append((pivot, {key: weight / vector[pivot] for key, weight in vector.items()}))
+    return found
+
+
+def steps_down(vectors):
+    """A list of pairs (pivot, vector), each pivot 1 there and absent from all other vectors."""
+    found = []
+    for pivot, vector in reversed(forward(vectors)):
+        for later, row in found:
+            if later in vector:
+                vector = less_multiple(vector, vector[later], row)
+        found.append((pivot, vector))
     return found
 
 
 def rank(vectors):
-    return len(steps_down(vectors))
+    return len(forward(vectors))
 
 
 def is_spanned(vectors, vector):

@@ -7,6 +7,8 @@ import unittest
 from lostland.claims import read_saying
 from lostland.errors import InvalidReading
 from lostland.exact import ONE, ZERO, fraction, fraction_text, plus, read_fraction
+from lostland.hands import hand
+from lostland.joints import joint
 from lostland.judging import bond, judge
 from lostland.presses import crushed_paper
 from lostland.sheets import Sheet
@@ -30,8 +32,9 @@ class TestExamples(Case):
         room = read_room("sheet s turned\na 0 0\nb 1 0\nc 0 1\nend\n"
                          "sheet t turned\na 0 0\nb 0 2\nend\n")
         space = Space(room)
-        self.same([space.rank, space.freedoms, where(space, ("mark", "c"), on="t")],
-                  [10, 4, ((-2, 1), (0, 1))])
+        self.same([space.rank, space.freedoms, where(space, ("mark", "c"), on="t"),
+                   joint(space, "s", "t").word, hand(space, "t")],
+                  [10, 4, ((-2, 1), (0, 1)), "one", "right"])
 
     def test_two_slanted_sheets_that_are_pressed(self):
         room = read_room("sheet s slanted\na 0 0\nb 1 0\nc 0 1\nd 1 1\nend\n"
@@ -47,9 +50,9 @@ class TestExamples(Case):
         texts = ["middle m a b", "same a b", "same c d", "line a b c", "not same a b; line m a b"]
         words = [judge(space, read_saying(room, text)) for text in texts]
         self.same([words, bond(space, read_saying(room, "line m a b")[0]),
-                   where(space, ("mark", "m"), on="t")],
+                   where(space, ("mark", "m"), on="t"), joint(space, "s", "t").word],
                   [["surely", "never", "open", "unsure", "surely"], ("ratio", (1, 1)),
-                   ((1, 2), (0, 1))])
+                   ((1, 2), (0, 1)), "hinge"])
 
     def test_readme(self):
         text = (Path(__file__).resolve().parent.parent / "README.md").read_text()

@@ -121,6 +121,31 @@ MODULES = {
     "judging": {
         "judge": "(space, saying)", "surely": "(space, claim)", "bond": "(space, claim)",
     },
+    "grounds": {
+        "judge_paper": "(space, saying)", "is_ground": "(space, claim, value)",
+        "is_judge_paper": "(space, saying, value)",
+    },
+    "joints": {
+        "Joint": {
+            "size": property, "word": property, "flat": "(self)", "image": "(self)",
+            "lead": "(self, spot)", "pairs": "(self)", "motion_over": "(self)", "back": "(self)",
+            "then": "(self, following)", "__eq__": None, "__repr__": None,
+        },
+        "joint": "(space, one, other)", "joints": "(space)", "blocks": "(space)",
+    },
+    "areas": {
+        "area": "(land, triple)", "quotient": "(space, triple, other)",
+        "quotient_lands": "(space, triple, other)", "scale": "(space, one, other)",
+        "scale_lands": "(space, one, other)",
+    },
+    "hands": {
+        "hand": "(space, name)", "hand_paper": "(space, name)",
+        "is_hand_paper": "(space, name, value)",
+    },
+    "spare": {
+        "is_spare": "(space, name, mark)", "spare": "(space)",
+        "spare_sums": "(space, name, mark)", "stripped": "(space, order=None)",
+    },
 }
 
 

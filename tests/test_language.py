@@ -27,7 +27,7 @@ NO_NAMES = set(
 NO_WORDS = re.compile(
     r"\b(type|typing|enum|Enum|Flag|Generic|Protocol|ABC|namedtuple|NamedTuple)\b|dataclass")
 NO_NODES = (
-    ast.GeneratorExp, ast.Global, ast.AsyncFunctionDef, ast.Await, ast.Yield, ast.YieldFrom,
+    ast.GeneratorExp, ast.Global, ast.AsyncFunctionDef, ast.Await, ast.YieldFrom,
     ast.Try, ast.With, ast.Match, ast.AnnAssign, ast.Delete, ast.Import, ast.Div, ast.Mod,
     ast.MatMult, ast.Lambda, ast.NamedExpr, ast.Nonlocal)
 FILES = sorted(FOLDER.glob("*.py"))
@@ -186,6 +186,34 @@ class TestLanguage(unittest.TestCase):
                 self.assertIsInstance(returns[0].value, ast.JoinedStr, place)
             if node.name in ("__len__", "__iter__"):
                 self.assertIn(returns[0].value.func.id, ("len", "iter"), place)
+
+    def test_generators(self):
+        parents = {child: node for _, node in nodes(ast.AST) for child in ast.iter_child_nodes(node)}
+        names = []
+        for place, node in nodes(ast.FunctionDef):
+            parts = list(ast.walk(node))
+            yields = [part for part in parts if isinstance(part, ast.Yield)]
+            if yields:
+                names.append(node.name)
+                self.assertFalse(node.decorator_list or node.name.startswith("__"), place)
+                self.assertTrue(all(isinstance(parents[part], ast.Expr) for part in yields), place)
+                self.assertFalse([part for part in parts if isinstance(part, ast.Return) and part.value], place)
+        every = [node.name for _, node in nodes(ast.FunctionDef)]
+        for name in names:
+            self.assertEqual(every.count(name), 1, name)
+            self.assertNotIn(name, METHODS)
+        for place, node in nodes(ast.Name, ast.Attribute):
+            if getattr(node, "id", getattr(node, "attr", None)) not in names:
+                continue
+            # It is only called, and the call is iterated at once.
+            call = parents[node]
+            self.assertTrue(isinstance(call, ast.Call) and call.func is node, place)
+            use = parents[call]
+            if isinstance(use, ast.Call):
+                self.assertIn(use.func.id, ("list", "tuple", "sorted", "enumerate"), place)
+            else:
+                self.assertIsInstance(use, (ast.For, ast.comprehension), place)
+                self.assertIs(use.iter, call, place)
 
     def test_kept_answers(self):
         kept = []
