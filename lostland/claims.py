@@ -16,7 +16,7 @@ def check_claim(room, claim, at=0):
     """Raises unless the value is a claim of the room."""
     if not _has_form(claim):
         raise InvalidClaim(at, "form")
-    if not all([is_point(room, point) for point in _points_of(claim)]):
+    if not all([is_point(room, point) for point in points_of(claim)]):
         raise InvalidClaim(at, "point")
     if not _is_balanced(claim):
         raise InvalidClaim(at, "weights")
@@ -118,10 +118,10 @@ def _are_parts(value):
                 for part in value])
 
 
-def _points_of(claim):
+def points_of(claim):
     """The points of a claim, in order."""
     if claim[0] == "not":
-        return _points_of(claim[1])
+        return points_of(claim[1])
     if claim[0] == "mix":
         return [claim[1]] + [point for _, point in claim[2]]
     return list(claim[1:])

@@ -21,11 +21,17 @@ def room_text(room):
 
 def read_room(text):
     """The room with a text."""
+    reader = RoomReader()
+    read_by(reader, text)
+    return reader.result()
+
+
+def read_by(reader, text):
+    """Has a reader take all lines of a text; raises for the first line that cannot stand."""
     if not isinstance(text, str):
         raise InvalidText(0, "form")
     lines = text.split("\n")
     cut_off = lines.pop()
-    reader = RoomReader()
     for at, line in enumerate(lines):
         why = reader.take(line)
         if why is not None:
@@ -34,7 +40,6 @@ def read_room(text):
         raise InvalidText(len(lines), "form")
     if reader.is_in_sheet():
         raise InvalidText(len(lines), "missing")
-    return reader.result()
 
 
 class RoomReader:

@@ -1,15 +1,16 @@
-"""The examples of the document that stand on the modules there are, and those of README.md."""
+"""The examples of the document, and those of README.md."""
 
 from pathlib import Path
 import re
 import unittest
 
 from lostland.claims import read_saying
-from lostland.errors import InvalidReading
+from lostland.errors import InvalidReading, NothingLeft
 from lostland.exact import ONE, ZERO, fraction, fraction_text, plus, read_fraction
 from lostland.hands import hand
 from lostland.joints import joint
 from lostland.judging import bond, judge
+from lostland.maproom import MapRoom
 from lostland.presses import crushed_paper
 from lostland.sheets import Sheet
 from lostland.spaces import Space
@@ -53,6 +54,28 @@ class TestExamples(Case):
                    where(space, ("mark", "m"), on="t"), joint(space, "s", "t").word],
                   [["surely", "never", "open", "unsure", "surely"], ("ratio", (1, 1)),
                    ((1, 2), (0, 1)), "hinge"])
+
+    def test_a_map_room(self):
+        desk = MapRoom()
+        corner = Sheet("s", "slanted", [("a", (ZERO, ZERO)), ("b", (ONE, ZERO)), ("c", (ZERO, ONE))])
+        desk.do(("sheet", corner), ("sheet", Sheet("t", "slanted")), ("read", "t", "a", (ZERO, ZERO)),
+                ("mark", "m"))
+        desk.do(("tell", "middle m a b"))
+        self.same([desk("stands"), desk("freedoms"), desk("where m s"), desk("where m t"),
+                   desk("joint s t"), desk("judge line m a b"), desk.history()],
+                  ["yes", "10", "1/2 0", "open", "pin", "surely", (2, 0)])
+
+    def test_a_map_room_without_steps(self):
+        self.fails(NothingLeft, {}, MapRoom().undo)
+
+    def test_joints_of_kinds(self):
+        # The examples of [23].
+        two = "sheet s {}\na 0 0\nb 1 0\nend\nsheet t {}\na 1 1\nb 2 3\nend\n"
+        one = "sheet s {}\na 0 0\nend\nsheet t {}\na 1 1\nend\n"
+        for text, kinds, word in [(two, ("slanted", "slanted"), "hinge"), (two, ("turned", "turned"), "one"),
+                                  (two, ("turned", "slanted"), "hinge"), (one, ("sized", "sized"), "pin"),
+                                  (one, ("even", "even"), "one")]:
+            self.same(joint(Space(read_room(text.format(*kinds))), "s", "t").word, word)
 
     def test_readme(self):
         text = (Path(__file__).resolve().parent.parent / "README.md").read_text()

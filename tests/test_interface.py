@@ -146,6 +146,30 @@ MODULES = {
         "is_spare": "(space, name, mark)", "spare": "(space)",
         "spare_sums": "(space, name, mark)", "stripped": "(space, order=None)",
     },
+    "settling": {
+        "with_seen": "(space, land, pairs)", "settle": "(space, saying, *, land, among)",
+    },
+    "wrong": {
+        "suspects": "(space)", "fewest": "(space, *, most=2)", "apart_papers": "(space)",
+        "mended": "(space, name, mark)",
+    },
+    "redraw": {
+        "redrawn": "(space, name, motion)", "flipped": "(space, name)", "overlaid": "(space, on)",
+        "cut": "(space, name, first, second, other)", "joined": "(space, one, other)",
+        "drawn_block": "(space, on)",
+    },
+    "listing": {"listing": "(room)"},
+    "maproom": {
+        "MapRoom": {
+            "__init__": "(self)", "do": "(self, *deeds)", "undo": "(self)", "redo": "(self)",
+            "begin": "(self)", "keep": "(self)", "drop": "(self)", "history": "(self)",
+            "depth": property, "busy": property, "journal": "(self)", "held": "(self)",
+            "told": "(self)", "space": "(self)", "tried": "(self, *deeds)", "say": "(self, line)",
+            "__call__": "(self, line)", "log": "(self)", "twin": "(self)", "__eq__": None,
+            "__len__": None, "__repr__": None,
+        },
+    },
+    "maptexts": {"map_text": "(maproom)", "read_map": "(text)"},
 }
 
 

@@ -28,7 +28,7 @@ NO_WORDS = re.compile(
     r"\b(type|typing|enum|Enum|Flag|Generic|Protocol|ABC|namedtuple|NamedTuple)\b|dataclass")
 NO_NODES = (
     ast.GeneratorExp, ast.Global, ast.AsyncFunctionDef, ast.Await, ast.YieldFrom,
-    ast.Try, ast.With, ast.Match, ast.AnnAssign, ast.Delete, ast.Import, ast.Div, ast.Mod,
+    ast.TryStar, ast.With, ast.Match, ast.AnnAssign, ast.Delete, ast.Import, ast.Div, ast.Mod,
     ast.MatMult, ast.Lambda, ast.NamedExpr, ast.Nonlocal)
 FILES = sorted(FOLDER.glob("*.py"))
 TREES = {path.stem: ast.parse(path.read_text()) for path in FILES}
@@ -186,6 +186,16 @@ class TestLanguage(unittest.TestCase):
                 self.assertIsInstance(returns[0].value, ast.JoinedStr, place)
             if node.name in ("__len__", "__iter__"):
                 self.assertIn(returns[0].value.func.id, ("len", "iter"), place)
+
+    def test_caught_errors(self):
+        own = defined(TREES["errors"])
+        for place, node in nodes(ast.Try):
+            for handler in node.handlers:
+                kinds = handler.type.elts if isinstance(handler.type, ast.Tuple) else [handler.type]
+                self.assertTrue(all(kind.id in own for kind in kinds), place)
+            for row in node.finalbody:
+                self.assertIsInstance(row, ast.Assign, place)
+                self.assertIsInstance(row.value, ast.Constant, place)
 
     def test_generators(self):
         parents = {child: node for _, node in nodes(ast.AST) for child in ast.iter_child_nodes(node)}
