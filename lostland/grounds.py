@@ -80,10 +80,10 @@ def _land_for(space, saying):
 
 def _land_against(space, saying):
     """A whole land in which a saying does not hold."""
-    claim = [claim for claim in saying if not is_sure(space, claim)][0]
-    if claim[0] == "not":
-        return whole_land(space.also([claim[1]]))
-    return land_without(space, [claim])
+    unsure = [claim for claim in saying if not is_sure(space, claim)][0]
+    if unsure[0] == "not":
+        return whole_land(space.also([unsure[1]]))
+    return land_without(space, [unsure])
 
 
 def _is_ground_of(space, claim, value):

@@ -100,7 +100,7 @@ class MapRoom:
 
     def journal(self):
         """The list of the deeds of all steps that can be undone, the outermost ones first."""
-        histories = [done for _, done, _ in self._drafts] + [self._done]
+        histories = [draft[1] for draft in self._drafts] + [self._done]
         return [deed for done in histories for step in done for deed in step[0]]
 
     def held(self):

@@ -6,8 +6,10 @@ import unittest
 
 from lostland import errors
 from lostland.flats import Flat
+from lostland.joints import joint
 from lostland.lands import land_of
 from lostland.ledgers import Ledger
+from lostland.maproom import MapRoom
 from lostland.motions import Motion
 from lostland.rooms import Room
 from lostland.sheets import Sheet
@@ -63,6 +65,7 @@ NOT_FRACTIONS = [
     "mark", "spot", ("mark",), ("mark", "a"), ["mark", "a"], ("a", ((0, 1), (0, 1))),
     land_of(Room(), tables={}, moves={}, places={}), Space(Room()), Ledger(Room(marks=["a"])),
     (Space(Room(marks=["a"])), [Ledger(Room())]),
+    joint(Space(Room(Sheet("s", "even"))), "s", "s"), MapRoom(), (MapRoom(), [MapRoom()]),
 ]
 FRACTIONS = [
     (0, 1), (1, 1), (-1, 1), (1, 2), (-1, 2), (3, 4), (-7, 3), (BIG, 1), (-BIG, BIG + 1),
