@@ -58,7 +58,8 @@ def _longer(space, order, choices):
     found = {}
     for places in choices:
         for pair in _readings_of(crushed_paper(_struck(space, order, places))):
-            found[tuple(sorted([*places, order.index(pair)]))] = True
+            longer = sorted([*places, order.index(pair)])
+            found[tuple(longer)] = True
     return sorted(list(found))
 
 
